@@ -1,0 +1,1 @@
+"""Umbrellas: who gets wet on which way, and where the umbrellas gather."""
