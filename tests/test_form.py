@@ -113,6 +113,37 @@ class Form(unittest.TestCase):
                 if isinstance(node, ast.Name) and node.id in of_python:
                     self.assertIn(node.id, ALLOWED_BUILTINS)
 
+    def test_no_parameter_or_local_is_called_like_an_import_or_a_class(self):
+        for path in files():
+            taken = {alias.name for node in nodes(path) if isinstance(node, ast.ImportFrom) for alias in node.names}
+            taken |= {node.name for node in nodes(path) if isinstance(node, ast.ClassDef)}
+            for node in nodes(path):
+                if isinstance(node, ast.Name) and isinstance(node.ctx, ast.Store):
+                    self.assertNotIn(node.id, taken)
+                elif isinstance(node, ast.arg):
+                    self.assertNotIn(node.arg, taken)
+
+    def test_each_import_stands_in_the_file_that_it_is_drawn_from(self):
+        for path in files():
+            for node in nodes(path):
+                if isinstance(node, ast.ImportFrom):
+                    source = PACKAGE / (node.module.split(".")[1] + ".py")
+                    self.assertLessEqual({alias.name for alias in node.names}, set(names_bound(source)))
+
+    def test_no_method_is_called_like_a_value(self):
+        methods, values = set(), set()
+        for path in files():
+            for node in nodes(path):
+                if isinstance(node, ast.ClassDef):
+                    methods |= {part.name for part in node.body if isinstance(part, ast.FunctionDef)}
+                elif isinstance(node, ast.Attribute) and isinstance(node.ctx, ast.Store):
+                    values.add(node.attr)
+        self.assertEqual(methods & values, set())
+
+    def test_every_call_is_written(self):
+        for path in files():
+            self.assertNotIn("NotImplementedError", path.read_text(encoding="utf-8"))
+
     def test_methods(self):
         own = {name for path in files() for name in names_bound(path)} | {"__init__"}
         for path in files():

@@ -1,6 +1,7 @@
 """The calls, handed in as one list of numbers, and what is answered to them."""
 
-from wetwalk.ways import after_way, gets_wet, is_route, is_weather, wet_ways
+from wetwalk.ways import after_way, best_put, dry_choices, gets_wet, is_route, is_weather
+from wetwalk.ways import least_needed, lowest_terms, weigh_weathers, wet_ways
 
 FEWEST_PLACES = 2
 MOST_PLACES = 4
@@ -10,6 +11,7 @@ NOT_GRANTED = -1
 NO_SUCH_PLACE = -2
 TOO_MANY = -5
 NONE_THERE = -6
+WET_ANYWAY = -6
 NOBODY_THERE = -9
 
 BEGIN = 0
@@ -17,6 +19,9 @@ GO = 1
 BRING = 2
 LOSE = 3
 TRY_WAYS = 4
+LEAST = 5
+BEST = 6
+CARRIED = 7
 CHANCE = 8
 
 # By a call's number: how many whole numbers it hands over, then how many rows.
@@ -98,6 +103,36 @@ class Walker:
         wet = wet_ways(self.umbrellas, self.here, route, weather)
         return [sum(wet)] + wet
 
+    def least(self, route, weather):
+        needed = least_needed(len(self.umbrellas), self.here, route, weather)
+        return [sum(needed)] + needed
+
+    def best(self, n, route, weather):
+        if n > MOST_UMBRELLAS:
+            return [NOT_GRANTED]
+        put = best_put(n, len(self.umbrellas), self.here, route, weather)
+        return [sum(wet_ways(put, self.here, route, weather))] + put
+
+    def carried(self, route, weather):
+        choices = dry_choices(self.umbrellas, self.here, route, weather)
+        if len(choices) == 0:
+            return [WET_ANYWAY]
+        # Of several that are as few min takes the one that stands ahead.
+        fewest = min(choices, key=sum)
+        return [sum(fewest)] + fewest
+
+    def chance(self, a, b, route):
+        if b == 0 or a > b:
+            return [NOT_GRANTED]
+        weathers = weigh_weathers(self.umbrellas, self.here, route, a, b)
+        whole = sum([weight for weight, wet in weathers])
+        dry = sum([weight for weight, wet in weathers if wet == 0])
+        wet_in_all = sum([weight * wet for weight, wet in weathers])
+        return lowest_terms(dry, whole) + lowest_terms(wet_in_all, whole)
+
+    def look(self):
+        return [self.gone, self.wet, self.come, self.lost, self.here] + self.umbrellas
+
 
 class Reader:
     """Goes through the list of calls from its beginning, and leaves it as it is."""
@@ -153,7 +188,16 @@ def answer_call(walker, call, numbers, rows):
         return walker.lose(numbers[0])
     if call == TRY_WAYS:
         return walker.try_ways(rows[0], rows[1])
-    raise NotImplementedError("this call is not written yet")
+    if call == LEAST:
+        return walker.least(rows[0], rows[1])
+    if call == BEST:
+        return walker.best(numbers[0], rows[0], rows[1])
+    if call == CARRIED:
+        return walker.carried(rows[0], rows[1])
+    if call == CHANCE:
+        return walker.chance(numbers[0], numbers[1], rows[0])
+    # The one that's left: no call has a number above 9.
+    return walker.look()
 
 
 def answers(calls):
